@@ -1,0 +1,1 @@
+"""Reactivesynth: a synthesizer of reactive systems from temporal specifications."""

@@ -1,0 +1,129 @@
+"""Slow ways to tell what the program tells, as near to the words of the document as can be."""
+
+
+class Evaluator:
+    """The truth of formulas at the turns of a word, by the definitions of point 10."""
+
+    def __init__(self, names, lasso):
+        self.names = list(names)
+        self.head, self.loop = lasso
+        self.known = {}
+
+    def letter(self, turn):
+        if turn < len(self.head):
+            return self.head[turn]
+        return self.loop[(turn - len(self.head)) % len(self.loop)]
+
+    def truth(self, formula, turn):
+        # From some turn on the truth of every part comes again with the loop.
+        settled = len(self.head) + 12 * len(self.loop)
+        if turn > settled:
+            turn = settled + (turn - settled) % len(self.loop)
+        key = (formula, turn)
+        if key not in self.known:
+            self.known[key] = self.decide(formula, turn, settled + 2 * len(self.loop))
+        return self.known[key]
+
+    def decide(self, formula, n, far):
+        kind = formula[0]
+        if kind in ("true", "false"):
+            return kind == "true"
+        if kind == "signal":
+            return self.letter(n) >> self.names.index(formula[1]) & 1 == 1
+
+        def f(turn):
+            return self.truth(formula[1], turn)
+
+        def g(turn):
+            return self.truth(formula[2], turn)
+
+        later = range(n, max(n, far) + len(self.loop) + 1)
+        earlier = range(n + 1)
+        decisions = {
+            "not": lambda: not f(n),
+            "and": lambda: f(n) and g(n),
+            "or": lambda: f(n) or g(n),
+            "implies": lambda: not f(n) or g(n),
+            "iff": lambda: f(n) == g(n),
+            "next": lambda: f(n + 1),
+            "until": lambda: any(g(m) and all(f(k) for k in range(n, m)) for m in later),
+            "eventually": lambda: any(f(m) for m in later),
+            "always": lambda: all(f(m) for m in later),
+            "weak_until": lambda: any(g(m) and all(f(k) for k in range(n, m)) for m in later)
+            or all(f(m) for m in later),
+            "release": lambda: all(g(m) or any(f(k) for k in range(n, m)) for m in later),
+            "previous": lambda: n >= 1 and f(n - 1),
+            "weak_previous": lambda: n == 0 or f(n - 1),
+            "since": lambda: any(g(m) and all(f(k) for k in range(m + 1, n + 1)) for m in earlier),
+            "once": lambda: any(f(m) for m in earlier),
+            "historically": lambda: all(f(m) for m in earlier),
+            "trigger": lambda: all(g(m) or any(f(k) for k in range(m + 1, n + 1)) for m in earlier),
+        }
+        return decisions[kind]()
+
+
+def truth_at(formula, names, lasso, turn):
+    """Return the truth of a formula at a turn."""
+    return Evaluator(names, lasso).truth(formula, turn)
+
+
+def buchi_accepts(automaton, lasso):
+    """Return True if a Buchi automaton accepts the word of the lasso.
+
+    It composes the relation of one way round the loop with itself until
+    nothing new is found.
+    """
+    head, loop = lasso
+    count = len(automaton.rows)
+    reached = set(automaton.initial)
+    for letter in head:
+        reached = {target for state in reached for target in automaton.rows[state][letter]}
+    # A triple says that a way round leads from a state to another one, and
+    # whether it can go through an accepting state, the last one included.
+    once = set()
+    for state in range(count):
+        current = {(state, False)}
+        for letter in loop:
+            current = {(target, seen or target in automaton.accepting)
+                       for place, seen in current for target in automaton.rows[place][letter]}
+        once |= {(state, target, seen) for target, seen in current}
+    ways = set(once)
+    while True:
+        more = {(start, end, seen or too) for start, middle, seen in ways
+                for begin, end, too in once if begin == middle}
+        if more <= ways:
+            break
+        ways |= more
+    reached |= {end for start, end, _ in ways if start in reached}
+    return any((state, state, True) in ways for state in reached)
+
+
+def parity_accepts(parity, lasso):
+    """Return True if a parity automaton accepts the word of the lasso."""
+    head, loop = lasso
+    state = parity.start
+    for letter in head:
+        state = parity.rows[state][letter]
+    for _ in parity.rows:
+        for letter in loop:
+            state = parity.rows[state][letter]
+    seen = []
+    for _ in parity.rows:
+        for letter in loop:
+            seen.append(parity.priorities[state])
+            state = parity.rows[state][letter]
+    # After as many rounds as there are states the run is in its cycle, and in
+    # as many rounds more it goes through all of it.
+    return max(seen) % 2 == 0
+
+
+def reached_states(rows, start):
+    """Return the states of a deterministic automaton that can be reached."""
+    found = {start}
+    waiting = [start]
+    while waiting:
+        for target in rows[waiting.pop()]:
+            if target not in found:
+                found.add(target)
+                waiting.append(target)
+    return found
