@@ -40,6 +40,28 @@ def empty_automaton(letters):
     return Automaton(letters, [], [], [[[]] * letters])
 
 
+def built_automaton(letters, starts, moves, accepting):
+    """Return the automaton of all that can be reached from starts.
+
+    What will be its states may be anything that can be a key of a dict.
+    moves(state, letter) lists the successors, accepting(state) tells whether
+    a state is accepting.
+    """
+    if len(starts) == 0:
+        return empty_automaton(letters)
+
+    def step(state):
+        return [target for letter in range(letters) for target in moves(state, letter)]
+
+    found, _ = explore(starts, step)
+    numbers = {state: at for at, state in enumerate(found)}
+    rows = []
+    for state in found:
+        rows.append([sorted(set([numbers[target] for target in moves(state, letter)])) for letter in range(letters)])
+    chosen = [numbers[state] for state in found if accepting(state)]
+    return Automaton(letters, [numbers[state] for state in starts], chosen, rows)
+
+
 def state_graph(automaton):
     """Return the graph of the states, whatever the letters are."""
     graph = []

@@ -1,6 +1,6 @@
 """Turning a Buchi automaton into a parity automaton."""
 
-from reactivesynth.buchi import state_graph
+from reactivesynth.buchi import state_flags, state_graph
 from reactivesynth.graphs import components, explore, on_cycles
 from reactivesynth.lowering import lowered
 from reactivesynth.operations import trim
@@ -62,17 +62,15 @@ def move_priority(node, flashed, size):
 def loose_accepting(automaton):
     """Return accepting states with which the automaton accepts the same words.
 
-    A state counts if it lies on a cycle and each cycle of its component goes
-    through an accepting state. If some do not, the accepting states on cycles
-    of the component count. The more states count, the smaller the trees are.
+    A state on a cycle counts if it is accepting, or if every cycle of its
+    component goes through an accepting state. The more states count, the
+    smaller the trees are.
     """
     graph = state_graph(automaton)
     homes = components(graph)
     cyclic = on_cycles(graph)
-    accepting = [state in automaton.accepting for state in range(len(graph))]
-    others = [[] if accepting[state] else [target for target in row
-                                          if homes[target] == homes[state] and not accepting[target]]
-              for state, row in enumerate(graph)]
+    accepting = state_flags(automaton.accepting, len(graph))
+    others = [[] if flag else row for flag, row in zip(accepting, graph)]
     mixed = {homes[state]: True for state, found in enumerate(on_cycles(others)) if found}
     return [state for state in range(len(graph)) if cyclic[state] and (accepting[state] or homes[state] not in mixed)]
 
@@ -90,9 +88,9 @@ def with_state_priorities(letters, moves):
 
     def step(node):
         # A move on no cycle may have any priority; a usual one saves states.
-        tree = node[0]
-        return [(target, priorities.get((tree, target, priority), incoming.get(target, 0)))
-                for target, priority in moves[tree]]
+        place = node[0]
+        return [(after, priorities.get((place, after, given), incoming.get(after, 0)))
+                for after, given in moves[place]]
 
     nodes, rows = explore([(0, incoming.get(0, 0))], step)
     return ParityAutomaton(letters, 0, [priority for _, priority in nodes], rows)

@@ -1,8 +1,8 @@
 """Operations on Buchi automata."""
 
-from reactivesynth.buchi import Automaton, empty_automaton, state_flags, state_graph
+from reactivesynth.buchi import Automaton, built_automaton, empty_automaton, state_flags, state_graph
 from reactivesynth.errors import Mismatch
-from reactivesynth.graphs import explore, on_cycles, reachable, reversed_graph
+from reactivesynth.graphs import on_cycles, reachable, reversed_graph
 
 
 def check_same_letters(first, second):
@@ -31,25 +31,18 @@ def intersection(first, second):
     check_same_letters(first, second)
     flags = (state_flags(first.accepting, len(first.rows)), state_flags(second.accepting, len(second.rows)))
 
-    def moves(node, letter):
+    def moves(state, letter):
         # A state waits for an accepting state of the first automaton (side 0)
         # or, after that, of the second one (side 1), in turns.
-        one, two, side = node
+        one, two, side = state
         after = 1 - side if flags[side][(one, two)[side]] else side
         return [(left, right, after) for left in first.rows[one][letter] for right in second.rows[two][letter]]
 
-    def step(node):
-        return [target for letter in range(first.letters) for target in moves(node, letter)]
+    def accepting(state):
+        return state[2] == 0 and flags[0][state[0]]
 
     starts = [(one, two, 0) for one in first.initial for two in second.initial]
-    if len(starts) == 0:
-        return empty_automaton(first.letters)
-    nodes, _ = explore(starts, step)
-    numbers = {node: at for at, node in enumerate(nodes)}
-    rows = [[sorted([numbers[target] for target in moves(node, letter)]) for letter in range(first.letters)]
-            for node in nodes]
-    accepting = [at for at, (one, _, side) in enumerate(nodes) if side == 0 and flags[0][one]]
-    return Automaton(first.letters, list(range(len(starts))), accepting, rows)
+    return built_automaton(first.letters, starts, moves, accepting)
 
 
 def hide(automaton, letters):

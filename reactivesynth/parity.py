@@ -1,6 +1,6 @@
 """Deterministic parity automata."""
 
-from reactivesynth.buchi import Automaton
+from reactivesynth.buchi import built_automaton
 from reactivesynth.errors import InvalidAutomaton
 from reactivesynth.graphs import explore
 from reactivesynth.operations import trim
@@ -113,21 +113,15 @@ def to_buchi(parity):
     a state has it; then it may visit no state with a greater one. The guess
     is -1 before that.
     """
-    guesses = [priority for priority in sorted(set(parity.priorities)) if priority % 2 == 0]
-
-    def moves(node, letter):
-        target = parity.rows[node[0]][letter]
+    def moves(state, letter):
+        place, guess = state
+        target = parity.rows[place][letter]
         priority = parity.priorities[target]
-        if node[1] < 0:
-            return [(target, guess) for guess in [-1] + guesses if guess < 0 or guess == priority]
-        return [(target, node[1])] if priority <= node[1] else []
+        if guess >= 0:
+            return [(target, guess)] if priority <= guess else []
+        return [(target, -1), (target, priority)] if priority % 2 == 0 else [(target, -1)]
 
-    def step(node):
-        return [target for letter in range(parity.letters) for target in moves(node, letter)]
+    def accepting(state):
+        return parity.priorities[state[0]] == state[1]
 
-    nodes, _ = explore([(parity.start, -1)], step)
-    numbers = {node: at for at, node in enumerate(nodes)}
-    rows = [[sorted([numbers[target] for target in moves(node, letter)]) for letter in range(parity.letters)]
-            for node in nodes]
-    accepting = [at for at, (state, guess) in enumerate(nodes) if guess == parity.priorities[state]]
-    return trim(Automaton(parity.letters, [0], accepting, rows))
+    return trim(built_automaton(parity.letters, [(parity.start, -1)], moves, accepting))

@@ -153,7 +153,7 @@ def has_fair_run(moves, starts, conditions):
         return moves[node[1]].get(node[0], [])
 
     def after(node):
-        return [(step[1], (node[1] + 1) % len(moves)) for step in steps_from(node)]
+        return [(way[1], (node[1] + 1) % len(moves)) for way in steps_from(node)]
 
     nodes, graph = explore(starts, after)
     homes = components(graph)

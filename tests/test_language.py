@@ -12,7 +12,8 @@ import unittest
 FOLDER = os.path.join(os.path.dirname(os.path.dirname(os.path.abspath(__file__))), "reactivesynth")
 
 BUILTINS = set("""len range enumerate zip min max sum abs sorted reversed int str bool list tuple dict set isinstance
-ord repr any all divmod super ValueError""".split())
+ord repr any all divmod super iter ValueError property staticmethod classmethod""".split())
+DOUBLE_UNDERSCORE = set("""__init__ __eq__ __repr__ __str__ __len__ __enter__ __exit__ __call__ __iter__""".split())
 METHODS = set("""append clear copy count endswith extend find get index insert isalnum isalpha isdigit islower isspace
 isupper items join keys ljust lower lstrip partition pop remove replace reverse rfind rjust rpartition rsplit rstrip
 setdefault split splitlines startswith strip update upper values zfill bit_length""".split())
@@ -97,8 +98,11 @@ class SyntaxTest(unittest.TestCase):
                 self.assertIsInstance(node, NODES, f"{name}:{getattr(node, 'lineno', 0)}")
                 if isinstance(node, ast.Constant):
                     self.assertIsInstance(node.value, (int, str, type(None)), f"{name}:{node.lineno}")
-                if isinstance(node, (ast.FunctionDef, ast.ClassDef)):
+                if isinstance(node, ast.ClassDef):
                     self.assertEqual(node.decorator_list, [], f"{name}: {node.name}")
+                if isinstance(node, ast.FunctionDef):
+                    for decorator in node.decorator_list:
+                        self.assertRegex(ast.unparse(decorator), r"^(property|staticmethod|classmethod|\w+\.setter)$")
 
     def test_strings(self):
         for name, tree in trees():
@@ -179,7 +183,7 @@ class NameTest(unittest.TestCase):
             for bound, line in bound_names(tree):
                 self.assertNotIn(bound, dir(builtins), f"{name}:{line}")
                 self.assertNotIn(bound, BARRED, f"{name}:{line}")
-                self.assertTrue(not bound.startswith("__") or bound == "__init__", f"{name}:{line}")
+                self.assertTrue(not bound.startswith("__") or bound in DOUBLE_UNDERSCORE, f"{name}:{line}")
             for node in ast.walk(tree):
                 if isinstance(node, ast.Attribute):
                     self.assertNotIn(node.attr, BARRED, f"{name}:{node.lineno}")

@@ -304,6 +304,23 @@ class HiddenTest(unittest.TestCase):
                              ("forall", ("h",), ("implies", everywhere, outer))):
                     self.assertIs(holds(prop, names, lasso, turn=turn), expected, (prop, lasso, turn))
 
+    def test_order_of_the_turns(self):
+        # A hidden signal repeats a, and shows what stands before and after a turn.
+        chooser = generator(13)
+        later = "exists h: G(h <-> a) & %s & X(%s & X(%s & X(%s & X %s)))"
+        earlier = "exists h: H(h <-> a) & %s & Y(%s & Y(%s & Y(%s & Y %s)))"
+        for _ in range(60):
+            lasso = random_lasso(chooser, 2, 4, 6)
+            letters = unrolled(lasso, 60)
+            for turn in (0, 1, 4, 5, 6, 7, 8, 11, 30):
+                shown = letters[turn:turn + 5]
+                before = letters[turn - 4:turn + 1][::-1] if turn >= 4 else [1, 1, 1, 1, 1]
+                wrong = list(shown)
+                wrong[chooser.randrange(5)] ^= 1
+                for text, row, expected in ((later, shown, True), (later, wrong, False), (earlier, before, turn >= 4)):
+                    signs = tuple("h" if letter else "!h" for letter in row)
+                    self.check(text % signs, ["a"], lasso, expected, turn)
+
     def test_against_short_values_of_the_hidden_signals(self):
         # What short values show is true; and the converse for these simple formulas.
         chooser = generator(11)

@@ -203,9 +203,11 @@ class FirstDifferenceTest(unittest.TestCase):
                 self.assertEqual(math.gcd(len(first[1]), len(second[1])), 1)
 
     def test_difference_in_the_head(self):
-        self.assertEqual(first_difference(((0, 5), (0,)), ((0, 0), (0,))), 1)
-        self.assertEqual(first_difference(((5,), (0,)), ((), (0,))), 0)
-        self.assertEqual(first_difference(((), (0,)), ((0, 0, 0, 0, 0, 1), (0,))), 5)
+        for first, second, turn in ((((0, 5), (0,)), ((0, 0), (0,)), 1), (((5,), (0,)), ((), (0,)), 0),
+                                    (((), (0,)), ((0, 0, 0, 0, 0, 1), (0,)), 5),
+                                    (((), (1, 0)), ((1, 0, 1, 0, 1, 0, 1, 0, 2), (1, 0)), 8)):
+            self.assertEqual(first_difference(first, second), turn)
+            self.assertEqual(first_difference(second, first), turn)
 
 
 if __name__ == "__main__":

@@ -1,0 +1,81 @@
+"""Points 2 and 4 for every function: arguments stay as they are, and equal arguments give equal results."""
+
+import copy
+import unittest
+
+from reactivesynth import errors
+from reactivesynth.buchi import Automaton, accepts, find_word
+from reactivesynth.determinization import determinize
+from reactivesynth.formulas import normal_form, signal_names, temporal_count
+from reactivesynth.operations import hide, intersection, trim, union, widen
+from reactivesynth.parity import ParityAutomaton, accepts_parity, complement_parity, quotient, to_buchi
+from reactivesynth.parsing import parse_property
+from reactivesynth.printing import format_property
+from reactivesynth.truth import holds, truth_word
+from reactivesynth.words import combine, first_difference, letter_at, make_lasso, relabel, suffix
+
+FORMULA = ("since", ("next", ("signal", "a")), ("iff", ("signal", "b"), ("always", ("signal", "a"))))
+HIDDEN = ("exists", ("h",), ("and", FORMULA, ("eventually", ("signal", "h"))))
+LASSO = ((1, 0, 1), (0, 1, 0, 1))
+BUCHI = (2, [0, 1], [0, 2], [[[0, 1], [2]], [[], [1, 2]], [[0, 1, 2], []]])
+PARITY = (2, 1, [0, 3, 2], [[0, 1], [2, 2], [1, 0]])
+
+CALLS = (
+    (make_lasso, [1, 0], [1, 0]), (letter_at, LASSO, 5), (suffix, LASSO, 4), (relabel, LASSO, [1, 0]),
+    (combine, LASSO, ((), (1, 1, 0)), 2), (first_difference, LASSO, ((), (1, 0, 1))),
+    (normal_form, FORMULA), (temporal_count, FORMULA), (signal_names, FORMULA),
+    (parse_property, "exists h: G(h -> a)", ["a"]), (format_property, HIDDEN),
+    (holds, FORMULA, ["a", "b"], LASSO), (holds, HIDDEN, ["a", "b"], LASSO), (truth_word, FORMULA, ["a", "b"], LASSO),
+    (Automaton,) + BUCHI, (accepts, Automaton(*BUCHI), LASSO), (find_word, Automaton(*BUCHI)),
+    (union, Automaton(*BUCHI), Automaton(*BUCHI)), (intersection, Automaton(*BUCHI), Automaton(*BUCHI)),
+    (hide, Automaton(*BUCHI), 1), (widen, Automaton(*BUCHI), 4), (trim, Automaton(*BUCHI)),
+    (ParityAutomaton,) + PARITY, (accepts_parity, ParityAutomaton(*PARITY), LASSO),
+    (complement_parity, ParityAutomaton(*PARITY)), (quotient, ParityAutomaton(*PARITY)),
+    (to_buchi, ParityAutomaton(*PARITY)), (determinize, Automaton(*BUCHI)),
+)
+WRONG_CALLS = (
+    (make_lasso, [1], []), (make_lasso, [-1], [0]), (letter_at, LASSO, -1), (suffix, LASSO, -1), (relabel, LASSO, [0]),
+    (parse_property, "a b", ["a"]), (parse_property, "exists a: a", ["a"]), (parse_property, "b", ["a"]),
+    (parse_property, "X" * 9 + "a", ["a"]), (holds, FORMULA, ["a", "b"], ((4,), (0,))),
+    (truth_word, FORMULA, ["a", "b"], ((), (4,))), (Automaton, 1, [1], [], [[[]]]),
+    (accepts, Automaton(*BUCHI), ((), (2,))), (hide, Automaton(*BUCHI), 3), (widen, Automaton(*BUCHI), 3),
+    (union, Automaton(*BUCHI), Automaton(1, [], [], [[[]]])), (ParityAutomaton, 1, 0, [0], [[1]]),
+    (intersection, Automaton(*BUCHI), Automaton(1, [], [], [[[]]])),
+    (accepts_parity, ParityAutomaton(*PARITY), ((2,), (0,))),
+)
+
+
+def shown(value):
+    """Return a value with the attributes of an automaton in the place of it."""
+    if isinstance(value, (Automaton, ParityAutomaton)):
+        return sorted(vars(value).items())
+    if isinstance(value, (list, tuple)):
+        return type(value)(shown(item) for item in value)
+    return value
+
+
+class PromiseTest(unittest.TestCase):
+    def test_arguments_stay(self):
+        for function, *arguments in CALLS:
+            with self.subTest(function.__name__):
+                before = copy.deepcopy(shown(arguments))
+                function(*arguments)
+                self.assertEqual(shown(arguments), before)
+
+    def test_equal_arguments_give_equal_results(self):
+        for function, *arguments in CALLS:
+            with self.subTest(function.__name__):
+                first = function(*arguments)
+                self.assertEqual(shown(function(*copy.deepcopy(arguments))), shown(first))
+
+    def test_every_error_stands_below_the_base(self):
+        for function, *arguments in WRONG_CALLS:
+            with self.subTest(function.__name__):
+                before = copy.deepcopy(shown(arguments))
+                with self.assertRaises(errors.SynthError):
+                    function(*arguments)
+                self.assertEqual(shown(arguments), before)
+
+
+if __name__ == "__main__":
+    unittest.main()
