@@ -3,9 +3,10 @@
 from reactivesynth.buchi import state_flags, state_graph
 from reactivesynth.graphs import components, explore, on_cycles
 from reactivesynth.lowering import lowered
+from reactivesynth.masks import mask_of, numbers_of
 from reactivesynth.operations import trim
 from reactivesynth.parity import ParityAutomaton, quotient
-from reactivesynth.trees import mask_of, next_tree, states_of
+from reactivesynth.trees import next_tree
 
 
 def determinize(automaton):
@@ -39,7 +40,7 @@ def tree_moves(automaton):
 
 def moves_of(tree, columns, accepting):
     """Return the next tree and the priority of the move for each letter."""
-    states = states_of(tree[0][1]) if len(tree) > 0 else []
+    states = numbers_of(tree[0][1]) if len(tree) > 0 else []
     moves = []
     known = {}
     for images in columns:

@@ -73,7 +73,10 @@ def finishing_order(graph):
 
 
 def components(graph):
-    """Return for each node the number of its strongly connected component."""
+    """Return for each node the number of its strongly connected component.
+
+    Edges lead from a component to itself and to components with greater numbers.
+    """
     turned = reversed_graph(graph)
     homes = [-1] * len(graph)
     count = 0
@@ -100,3 +103,21 @@ def on_cycles(graph):
             if homes[target] == homes[node]:
                 cyclic[homes[node]] = True
     return [cyclic[home] for home in homes]
+
+
+def part_of(graph, nodes):
+    """Return the graph of some nodes alone, which get their places in the list as numbers."""
+    numbers = {node: at for at, node in enumerate(nodes)}
+    return [[numbers[target] for target in graph[node] if target in numbers] for node in nodes]
+
+
+def component_lists(graph, nodes):
+    """Return the components of the graph of some nodes alone, each as a list of nodes.
+
+    No edge leads from a component to one that stands before it.
+    """
+    homes = components(part_of(graph, nodes))
+    groups = [[] for _ in range(max(homes, default=-1) + 1)]
+    for node, home in zip(nodes, homes):
+        groups[home].append(node)
+    return groups

@@ -41,6 +41,21 @@ def number_parts(formula, names):
     return parts
 
 
+def numbers_below(part):
+    """Return the numbers of the operands of a part."""
+    if part[0] == "signal":
+        return []
+    return [number for number in part[1:] if number >= 0]
+
+
+def free_of(parts, kinds):
+    """Return for each part whether no operator of these kinds occurs in it."""
+    found = []
+    for part in parts:
+        found.append(part[0] not in kinds and all([found[below] for below in numbers_below(part)]))
+    return found
+
+
 def truth_of(kind, first, second, carried, full):
     """Return the truth of a part from the truth of its operands.
 

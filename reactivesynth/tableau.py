@@ -2,6 +2,7 @@
 
 from reactivesynth.formulas import FUTURE, PAST
 from reactivesynth.graphs import components, explore
+from reactivesynth.masks import bit_column, bits_at
 from reactivesynth.parts import STEPS, TRUE_BEYOND, number_parts, truth_of
 from reactivesynth.words import letter_at
 
@@ -35,18 +36,10 @@ class Tableau:
                     asked = asked | (1 << bit)
         return [state for state in range(1 << len(self.carriers)) if state & fixed == asked]
 
-    def bit_column(self, bit):
-        """Return the integer that has in each case k the bit number bit of k."""
-        size = 1 << bit
-        column = ((1 << size) - 1) << size
-        for doubling in range(bit + 1, self.bits):
-            column = column | (column << (1 << doubling))
-        return column
-
     def signal_column(self, signal, letter):
         """Return the truth of a signal in all cases."""
         if signal >= self.visible:
-            return self.bit_column(signal - self.visible)
+            return bit_column(signal - self.visible, self.bits)
         return self.full if (letter >> signal) & 1 == 1 else 0
 
     def columns(self, letter):
@@ -55,7 +48,7 @@ class Tableau:
         The bits of a case are the values of the hidden signals and then what
         each temporal operator needs to have carried to it.
         """
-        needed = {at: self.bit_column(self.hidden + bit) for bit, at in enumerate(self.carriers)}
+        needed = {at: bit_column(self.hidden + bit, self.bits) for bit, at in enumerate(self.carriers)}
         found = []
         for at, (kind, first, second) in enumerate(self.parts):
             if kind == "signal":
@@ -97,7 +90,7 @@ class Tableau:
         afters = []
         for bit, at in enumerate(self.carriers):
             kind, first, _ = self.parts[at]
-            needed = self.bit_column(self.hidden + bit)
+            needed = bit_column(self.hidden + bit, self.bits)
             given = columns[first if kind in STEPS else at]
             befores.append(needed if kind in PAST else given)
             afters.append(given if kind in PAST else needed)
@@ -107,14 +100,6 @@ class Tableau:
             step = (bits_at(befores, case), bits_at(afters, case), bits_at(fair, case), (columns[-1] >> case) & 1)
             found[step] = True
         return list(found)
-
-
-def bits_at(columns, case):
-    """Return the bits that columns have in a case, as one integer."""
-    bits = 0
-    for at, column in enumerate(columns):
-        bits = bits | (((column >> case) & 1) << at)
-    return bits
 
 
 def satisfiable(formula, visible, hidden, lasso, turn):

@@ -8,29 +8,13 @@ than their parent: those whose runs have been in accepting states since the
 children of the node last held all of its states.
 """
 
-
-def mask_of(states):
-    """Return a list of states as a label."""
-    mask = 0
-    for state in states:
-        mask = mask | (1 << state)
-    return mask
-
-
-def states_of(mask):
-    """Return the states of a label in ascending order."""
-    states = []
-    while mask > 0:
-        lowest = mask & -mask
-        states.append(lowest.bit_length() - 1)
-        mask = mask ^ lowest
-    return states
+from reactivesynth.masks import numbers_of
 
 
 def moved(mask, images):
     """Return the successors of the states of a label, where images has a label for each state."""
     after = 0
-    for state in states_of(mask):
+    for state in numbers_of(mask):
         after = after | images[state]
     return after
 

@@ -1,5 +1,7 @@
 """Slow ways to tell what the program tells, as near to the words of the document as can be."""
 
+import itertools
+
 
 class Evaluator:
     """The truth of formulas at the turns of a word, by the definitions of point 10."""
@@ -127,3 +129,53 @@ def reached_states(rows, start):
                 found.add(target)
                 waiting.append(target)
     return found
+
+
+def slow_distances(game, player, targets):
+    """Return the distances of point 25, found for one number of moves after the other."""
+    known = {target: 0 for target in targets}
+    for moves in range(1, len(game.moves) + 1):
+        before = set(known)
+        for position, row in enumerate(game.moves):
+            forced = any if game.owners[position] == player else all
+            if position not in known and forced(target in before for target in row):
+                known[position] = moves
+    return [known.get(position, -1) for position in range(len(game.moves))]
+
+
+def play_winner(game, moves, position):
+    """Return the winner of the play from a position in which each position has one move.
+
+    A position without one (-1) ends the play: then its owner loses.
+    """
+    seen = []
+    while position not in seen:
+        if moves[position] < 0:
+            return 1 - game.owners[position]
+        seen.append(position)
+        position = moves[position]
+    return max(game.priorities[place] for place in seen[seen.index(position):]) % 2
+
+
+def all_choices(game, player):
+    """Return all ways for a player to choose one move at each own position, -1 at the others."""
+    return list(itertools.product(*[moves if owner == player else (-1,)
+                                    for owner, moves in zip(game.owners, game.moves)]))
+
+
+def joined(game, player, choices, others):
+    """Return the choices of a player together with those of the other player."""
+    return [mine if owner == player else other for owner, mine, other in zip(game.owners, choices, others)]
+
+
+def slow_choices_win(game, player, choices, position):
+    """Return True if choices win from a position, after trying all that the other player can always do."""
+    return all(play_winner(game, joined(game, player, choices, others), position) == player
+               for others in all_choices(game, 1 - player))
+
+
+def slow_winners(game):
+    """Return the winner of each position, after trying all choices of player 0."""
+    tries = [[slow_choices_win(game, 0, choices, position) for position in range(len(game.moves))]
+             for choices in all_choices(game, 0)]
+    return [0 if any(row[position] for row in tries) else 1 for position in range(len(game.moves))]

@@ -4,6 +4,7 @@ import itertools
 import random
 
 from reactivesynth.buchi import Automaton
+from reactivesynth.games import Game
 from reactivesynth.parity import ParityAutomaton
 
 CONSTANTS = ("true", "false")
@@ -88,3 +89,16 @@ def automaton_parts(automaton):
 def parity_parts(parity):
     """Return all attributes of a parity automaton."""
     return parity.letters, parity.start, parity.priorities, parity.rows
+
+
+def random_game(chooser, positions, greatest, most_moves):
+    """Return a parity game."""
+    return Game([chooser.randrange(2) for _ in range(positions)],
+                [chooser.randint(0, greatest) for _ in range(positions)],
+                [sorted({chooser.randrange(positions) for _ in range(chooser.randint(1, most_moves))})
+                 for _ in range(positions)])
+
+
+def game_parts(game):
+    """Return all attributes of a game."""
+    return game.owners, game.priorities, game.moves

@@ -17,10 +17,17 @@ FUNCTIONS = {
     "parity": {"accepts_parity": "(parity, lasso)", "complement_parity": "(parity)", "quotient": "(parity)",
                "to_buchi": "(parity)"},
     "determinization": {"determinize": "(automaton)"},
+    "comparison": {"complement": "(automaton)", "included": "(first, second)", "equivalent": "(first, second)"},
+    "translation": {"translate": "(prop, names)"},
+    "description": {"describe": "(automaton, names)"},
+    "games": {"distances": "(game, player, targets)", "choices_win": "(game, player, choices, position)"},
+    "solving": {"solve": "(game)"},
 }
 CLASSES = {
     "buchi": {"Automaton": "(letters, initial, accepting, rows)"},
     "parity": {"ParityAutomaton": "(letters, start, priorities, rows)"},
+    "games": {"Game": "(owners, priorities, moves)"},
+    "solving": {"Solution": "(winners, choices)"},
 }
 
 

@@ -5,12 +5,17 @@ import unittest
 
 from reactivesynth import errors
 from reactivesynth.buchi import Automaton, accepts, find_word
+from reactivesynth.comparison import complement, equivalent, included
+from reactivesynth.description import describe
 from reactivesynth.determinization import determinize
 from reactivesynth.formulas import normal_form, signal_names, temporal_count
+from reactivesynth.games import Game, choices_win, distances
 from reactivesynth.operations import hide, intersection, trim, union, widen
 from reactivesynth.parity import ParityAutomaton, accepts_parity, complement_parity, quotient, to_buchi
 from reactivesynth.parsing import parse_property
 from reactivesynth.printing import format_property
+from reactivesynth.solving import Solution, solve
+from reactivesynth.translation import translate
 from reactivesynth.truth import holds, truth_word
 from reactivesynth.words import combine, first_difference, letter_at, make_lasso, relabel, suffix
 
@@ -19,6 +24,8 @@ HIDDEN = ("exists", ("h",), ("and", FORMULA, ("eventually", ("signal", "h"))))
 LASSO = ((1, 0, 1), (0, 1, 0, 1))
 BUCHI = (2, [0, 1], [0, 2], [[[0, 1], [2]], [[], [1, 2]], [[0, 1, 2], []]])
 PARITY = (2, 1, [0, 3, 2], [[0, 1], [2, 2], [1, 0]])
+OTHER_BUCHI = (2, [0], [0], [[[0], []]])
+GAME = ([0, 1, 1], [2, 1, 0], [[1, 2], [0, 1], [0, 2]])
 
 CALLS = (
     (make_lasso, [1, 0], [1, 0]), (letter_at, LASSO, 5), (suffix, LASSO, 4), (relabel, LASSO, [1, 0]),
@@ -32,6 +39,11 @@ CALLS = (
     (ParityAutomaton,) + PARITY, (accepts_parity, ParityAutomaton(*PARITY), LASSO),
     (complement_parity, ParityAutomaton(*PARITY)), (quotient, ParityAutomaton(*PARITY)),
     (to_buchi, ParityAutomaton(*PARITY)), (determinize, Automaton(*BUCHI)),
+    (complement, Automaton(*BUCHI)), (included, Automaton(*BUCHI), Automaton(*OTHER_BUCHI)),
+    (equivalent, Automaton(*OTHER_BUCHI), Automaton(*BUCHI)), (translate, FORMULA, ["a", "b"]),
+    (translate, HIDDEN, ["b", "a"]), (describe, Automaton(*BUCHI), ["a"]),
+    (Game,) + GAME, (distances, Game(*GAME), 1, [2, 0, 2]), (choices_win, Game(*GAME), 1, [1, 1, -1], 1),
+    (Solution, [0, 1], [1, -1]), (solve, Game(*GAME)),
 )
 WRONG_CALLS = (
     (make_lasso, [1], []), (make_lasso, [-1], [0]), (letter_at, LASSO, -1), (suffix, LASSO, -1), (relabel, LASSO, [0]),
@@ -42,12 +54,16 @@ WRONG_CALLS = (
     (union, Automaton(*BUCHI), Automaton(1, [], [], [[[]]])), (ParityAutomaton, 1, 0, [0], [[1]]),
     (intersection, Automaton(*BUCHI), Automaton(1, [], [], [[[]]])),
     (accepts_parity, ParityAutomaton(*PARITY), ((2,), (0,))),
+    (included, Automaton(*BUCHI), Automaton(1, [], [], [[[]]])),
+    (equivalent, Automaton(*BUCHI), Automaton(1, [], [], [[[]]])), (describe, Automaton(*BUCHI), ["a", "b"]),
+    (describe, Automaton(1, [], [], [[[]]] * 5), []), (Game, [2], [0], [[0]]), (distances, Game(*GAME), 0, [1, 3]),
+    (choices_win, Game(*GAME), 0, [1, -1, -1], 3),
 )
 
 
 def shown(value):
-    """Return a value with the attributes of an automaton in the place of it."""
-    if isinstance(value, (Automaton, ParityAutomaton)):
+    """Return a value with the attributes of an object in the place of it."""
+    if isinstance(value, (Automaton, ParityAutomaton, Game, Solution)):
         return sorted(vars(value).items())
     if isinstance(value, (list, tuple)):
         return type(value)(shown(item) for item in value)
