@@ -1,8 +1,8 @@
 """Deterministic parity automata."""
 
+from reactivesynth.alike import without_alike
 from reactivesynth.buchi import built_automaton
 from reactivesynth.errors import InvalidAutomaton
-from reactivesynth.graphs import explore
 from reactivesynth.operations import trim
 from reactivesynth.words import check_letters
 
@@ -66,44 +66,8 @@ def complement_parity(parity):
 
 def quotient(parity):
     """Return the parity automaton with one state for each class of alike states."""
-    reached, rows = explore([parity.start], lambda state: parity.rows[state])
-    classes = alike_classes([parity.priorities[state] for state in reached], rows)
-    # States are numbered in the order in which they are first reached, and so
-    # are their classes; so the first member of each class stands for it.
-    members = {}
-    for state, number in enumerate(classes):
-        if number not in members:
-            members[number] = state
-    chosen = list(members.values())
-    priorities = [parity.priorities[reached[state]] for state in chosen]
-    small_rows = [[classes[target] for target in rows[state]] for state in chosen]
-    return ParityAutomaton(parity.letters, 0, priorities, small_rows)
-
-
-def alike_classes(labels, rows):
-    """Return for each state the number of its class.
-
-    Two states are in one class if every sequence of moves leads from both to
-    states with the same label. Classes are numbered by their first members.
-    """
-    classes = numbered(labels)
-    count = -1
-    while max(classes) > count:
-        count = max(classes)
-        classes = numbered([(classes[state], tuple([classes[target] for target in row]))
-                            for state, row in enumerate(rows)])
-    return classes
-
-
-def numbered(values):
-    """Return the values numbered in the order in which they first occur."""
-    numbers = {}
-    found = []
-    for value in values:
-        if value not in numbers:
-            numbers[value] = len(numbers)
-        found.append(numbers[value])
-    return found
+    states, rows = without_alike(parity.start, parity.priorities, parity.rows)
+    return ParityAutomaton(parity.letters, 0, [parity.priorities[state] for state in states], rows)
 
 
 def to_buchi(parity):

@@ -2,10 +2,8 @@
 
 from reactivesynth.errors import DuplicateSignal, FormulaSyntaxError, TooLarge, UnknownSignal
 from reactivesynth.formulas import count_operators, depth, subformulas, temporal_count
+from reactivesynth.reading import is_reserved, word_at
 from reactivesynth.signs import CONSTANTS, INFIX_SIGNS, PREFIX_SIGNS, QUANTIFIERS
-
-LOWER_CASE = "abcdefghijklmnopqrstuvwxyz"
-DIGITS = "0123456789"
 
 # No sign in this list begins with one that stands before it.
 SIGNS = ("<->", "->", "!", "&", "|", "(", ")", ",", ":",
@@ -87,15 +85,10 @@ def token_at(text, at):
     for sign in SIGNS:
         if text[at:at + len(sign)] == sign:
             return sign, sign
-    if text[at] not in LOWER_CASE:
+    word = word_at(text, at)
+    if word == "":
         return "bad", ""
-    end = at + 1
-    while end < len(text) and (text[end] in LOWER_CASE or text[end] in DIGITS):
-        end += 1
-    word = text[at:end]
-    if word in CONSTANTS or word in QUANTIFIERS:
-        return word, word
-    return "name", word
+    return (word if is_reserved(word) else "name"), word
 
 
 def fold(operators, parts):

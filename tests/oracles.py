@@ -179,3 +179,62 @@ def slow_winners(game):
     tries = [[slow_choices_win(game, 0, choices, position) for position in range(len(game.moves))]
              for choices in all_choices(game, 0)]
     return [0 if any(row[position] for row in tries) else 1 for position in range(len(game.moves))]
+
+
+def slow_said(machine, heard):
+    """Return the letters that a machine has said, by the definition of o(n) in point 28."""
+    emitted = []
+    state = 0
+    for letter in heard:
+        state, said = machine.rows[state][letter]
+        emitted.append(said)
+    turns = range(max(0, len(heard) - machine.lead))
+    return [emitted[turn + machine.lead] if turn + machine.lead >= 0 else machine.opening[turn] for turn in turns]
+
+
+def slow_play(machine, opponent, turns):
+    """Return the first letters of a play: each in turn hears all that the other has said so far."""
+    heard, said = [], []
+    while min(len(heard), len(said)) < turns:
+        before = len(heard) + len(said)
+        said = slow_said(machine, heard)
+        heard = slow_said(opponent, said)
+        assert len(heard) + len(said) > before
+    return [i + machine.inputs * o for i, o in zip(heard, said)][:turns]
+
+
+def slow_minimized(machine):
+    """Return the rows of the minimized machine, after comparing all pairs of states again and again."""
+    states = range(len(machine.rows))
+    unlike = {(one, two) for one in states for two in states
+              if [said for _, said in machine.rows[one]] != [said for _, said in machine.rows[two]]}
+    for _ in states:
+        unlike |= {(one, two) for one in states for two in states
+                   for (left, _), (right, _) in zip(machine.rows[one], machine.rows[two]) if (left, right) in unlike}
+    first = {state: min(other for other in states if (state, other) not in unlike) for state in states}
+    order = [first[0]]
+    for state in order:
+        for target, _ in machine.rows[state]:
+            if first[target] not in order:
+                order.append(first[target])
+    return tuple(tuple((order.index(first[target]), said) for target, said in machine.rows[state]) for state in order)
+
+
+def slow_separating_word(first, second):
+    """Return what separating_word returns, after trying all words of every length that can be needed."""
+    if first.opening != second.opening:
+        return []
+    for length in range(1, len(first.rows) + len(second.rows) + 1):
+        for word in itertools.product(range(first.inputs), repeat=length):
+            if last_emitted(first, word) != last_emitted(second, word):
+                return list(word)
+    return None
+
+
+def last_emitted(machine, word):
+    """Return the letter that a machine emits when it hears the last letter of a word."""
+    state = 0
+    said = None
+    for letter in word:
+        state, said = machine.rows[state][letter]
+    return said

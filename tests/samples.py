@@ -5,7 +5,9 @@ import random
 
 from reactivesynth.buchi import Automaton
 from reactivesynth.games import Game
+from reactivesynth.machines import Machine
 from reactivesynth.parity import ParityAutomaton
+from reactivesynth.specs import Spec
 
 CONSTANTS = ("true", "false")
 UNARY = ("not", "next", "eventually", "always", "previous", "weak_previous", "once", "historically")
@@ -102,3 +104,40 @@ def random_game(chooser, positions, greatest, most_moves):
 def game_parts(game):
     """Return all attributes of a game."""
     return game.owners, game.priorities, game.moves
+
+
+def random_machine(chooser, states, inputs, outputs, lead):
+    """Return a machine."""
+    opening = [chooser.randrange(outputs) for _ in range(max(0, -lead))]
+    return Machine(inputs, outputs, lead, opening,
+                   [[(chooser.randrange(states), chooser.randrange(outputs)) for _ in range(inputs)]
+                    for _ in range(states)])
+
+
+def machine_parts(machine):
+    """Return all attributes of a machine."""
+    return machine.inputs, machine.outputs, machine.lead, machine.opening, machine.rows
+
+
+def random_property(chooser, names, size, hidden):
+    """Return a property with as many hidden names as hidden says."""
+    if hidden == 0:
+        return random_formula(chooser, names, size)
+    more = ["h0", "k1", "l2"][:hidden]
+    return (chooser.choice(("exists", "forall")), tuple(more), random_formula(chooser, list(names) + more * 2, size))
+
+
+def random_spec(chooser, inputs, outputs, size):
+    """Return a specification; at most one of its properties in three has a hidden signal."""
+    names = inputs + outputs
+
+    def some():
+        return [random_property(chooser, names, chooser.randint(0, size), chooser.choice((0, 0, 1)))
+                for _ in range(chooser.randint(0, 2))]
+
+    return Spec(inputs, outputs, chooser.randint(-3, 2), some(), some(), negated=chooser.random() < 0.5)
+
+
+def spec_parts(spec):
+    """Return all attributes of a specification."""
+    return spec.inputs, spec.outputs, spec.lead, spec.assumptions, spec.guarantees, spec.negated

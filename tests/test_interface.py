@@ -22,13 +22,22 @@ FUNCTIONS = {
     "description": {"describe": "(automaton, names)"},
     "games": {"distances": "(game, player, targets)", "choices_win": "(game, player, choices, position)"},
     "solving": {"solve": "(game)"},
+    "machines": {"respond": "(machine, lasso)", "trace": "(machine, lasso)"},
+    "plays": {"play": "(machine, opponent)"},
+    "minimization": {"minimize": "(machine)", "separating_word": "(first, second)"},
+    "machinetext": {"format_machine": "(machine)", "parse_machine": "(text)"},
+    "specs": {"satisfies": "(spec, lasso)", "dual": "(spec)", "spec_automaton": "(spec)"},
 }
 CLASSES = {
     "buchi": {"Automaton": "(letters, initial, accepting, rows)"},
     "parity": {"ParityAutomaton": "(letters, start, priorities, rows)"},
     "games": {"Game": "(owners, priorities, moves)"},
     "solving": {"Solution": "(winners, choices)"},
+    "machines": {"Machine": "(inputs, outputs, lead, opening, rows)"},
+    "specs": {"Spec": "(inputs, outputs, lead, assumptions, guarantees, *, negated=False)"},
 }
+METHODS = {"machines": {"Machine": {"__call__": "(self, heard)"}}}
+PROPERTIES = {"specs": {"Spec": ("signals",)}}
 
 
 class InterfaceTest(unittest.TestCase):
@@ -51,6 +60,22 @@ class InterfaceTest(unittest.TestCase):
                     self.check(module_name, name, arguments)
                     member = getattr(importlib.import_module("reactivesynth." + module_name), name)
                     self.assertIn("__init__", vars(member))
+
+    def test_methods(self):
+        for module_name, classes in METHODS.items():
+            for name, members in classes.items():
+                for method, arguments in members.items():
+                    with self.subTest((name, method)):
+                        member = vars(getattr(importlib.import_module("reactivesynth." + module_name), name))[method]
+                        self.assertEqual(str(inspect.signature(member)), arguments)
+
+    def test_properties(self):
+        for module_name, classes in PROPERTIES.items():
+            for name, members in classes.items():
+                for member in members:
+                    with self.subTest((name, member)):
+                        found = vars(getattr(importlib.import_module("reactivesynth." + module_name), name))[member]
+                        self.assertIsInstance(found, property)
 
 
 if __name__ == "__main__":

@@ -10,11 +10,16 @@ from reactivesynth.description import describe
 from reactivesynth.determinization import determinize
 from reactivesynth.formulas import normal_form, signal_names, temporal_count
 from reactivesynth.games import Game, choices_win, distances
+from reactivesynth.machines import Machine, respond, trace
+from reactivesynth.machinetext import format_machine, parse_machine
+from reactivesynth.minimization import minimize, separating_word
 from reactivesynth.operations import hide, intersection, trim, union, widen
 from reactivesynth.parity import ParityAutomaton, accepts_parity, complement_parity, quotient, to_buchi
 from reactivesynth.parsing import parse_property
+from reactivesynth.plays import play
 from reactivesynth.printing import format_property
 from reactivesynth.solving import Solution, solve
+from reactivesynth.specs import Spec, dual, satisfies, spec_automaton
 from reactivesynth.translation import translate
 from reactivesynth.truth import holds, truth_word
 from reactivesynth.words import combine, first_difference, letter_at, make_lasso, relabel, suffix
@@ -25,6 +30,9 @@ LASSO = ((1, 0, 1), (0, 1, 0, 1))
 BUCHI = (2, [0, 1], [0, 2], [[[0, 1], [2]], [[], [1, 2]], [[0, 1, 2], []]])
 PARITY = (2, 1, [0, 3, 2], [[0, 1], [2, 2], [1, 0]])
 OTHER_BUCHI = (2, [0], [0], [[[0], []]])
+MACHINE = (2, 2, -1, [0], [[(1, 0), (0, 1)], [(0, 1), (1, 0)], [(2, 0), (2, 0)]])
+OPPONENT = (2, 2, 0, [], [[(0, 1), (0, 0)]])
+SPEC = (["a"], ["b"], 0, [FORMULA], [HIDDEN, FORMULA])
 GAME = ([0, 1, 1], [2, 1, 0], [[1, 2], [0, 1], [0, 2]])
 
 CALLS = (
@@ -44,6 +52,12 @@ CALLS = (
     (translate, HIDDEN, ["b", "a"]), (describe, Automaton(*BUCHI), ["a"]),
     (Game,) + GAME, (distances, Game(*GAME), 1, [2, 0, 2]), (choices_win, Game(*GAME), 1, [1, 1, -1], 1),
     (Solution, [0, 1], [1, -1]), (solve, Game(*GAME)),
+    (Machine,) + MACHINE, (Machine.__call__, Machine(*MACHINE), [1, 0, 1]), (respond, Machine(*MACHINE), LASSO),
+    (trace, Machine(*MACHINE), LASSO), (play, Machine(*MACHINE), Machine(*OPPONENT)), (minimize, Machine(*MACHINE)),
+    (separating_word, Machine(*MACHINE), Machine(2, 2, -1, [0], [[(0, 0), (0, 0)]])),
+    (format_machine, Machine(*MACHINE)), (parse_machine, "machine 2 2 -1\nopening 0\n0/0 0/1\n"),
+    (Spec,) + SPEC, (satisfies, Spec(*SPEC), LASSO), (dual, Spec(*SPEC)), (spec_automaton, Spec(*SPEC)),
+    (spec_automaton, dual(Spec(*SPEC))),
 )
 WRONG_CALLS = (
     (make_lasso, [1], []), (make_lasso, [-1], [0]), (letter_at, LASSO, -1), (suffix, LASSO, -1), (relabel, LASSO, [0]),
@@ -58,12 +72,16 @@ WRONG_CALLS = (
     (equivalent, Automaton(*BUCHI), Automaton(1, [], [], [[[]]])), (describe, Automaton(*BUCHI), ["a", "b"]),
     (describe, Automaton(1, [], [], [[[]]] * 5), []), (Game, [2], [0], [[0]]), (distances, Game(*GAME), 0, [1, 3]),
     (choices_win, Game(*GAME), 0, [1, -1, -1], 3),
+    (Machine, 2, 2, -1, [0], [[(0, 0)]]), (Machine.__call__, Machine(*MACHINE), [0, 2]),
+    (respond, Machine(*MACHINE), ((2,), (0,))), (trace, Machine(*MACHINE), ((), (3,))),
+    (play, Machine(*MACHINE), Machine(*MACHINE)), (separating_word, Machine(*MACHINE), Machine(*OPPONENT)),
+    (parse_machine, "machine"), (Spec, ["a"], ["a"], 0, [], []), (satisfies, Spec(*SPEC), ((4,), (0,))),
 )
 
 
 def shown(value):
     """Return a value with the attributes of an object in the place of it."""
-    if isinstance(value, (Automaton, ParityAutomaton, Game, Solution)):
+    if isinstance(value, (Automaton, ParityAutomaton, Game, Solution, Machine, Spec)):
         return sorted(vars(value).items())
     if isinstance(value, (list, tuple)):
         return type(value)(shown(item) for item in value)
