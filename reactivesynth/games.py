@@ -84,7 +84,8 @@ def has_cycle_for(graph, places, priorities, player):
     """Return True if a player wins by going round some cycle through these places alone."""
     waiting = [places]
     while len(waiting) > 0:
-        for group in component_lists(graph, waiting.pop()):
+        groups = component_lists(graph, waiting.pop())
+        for group in groups:
             if len(group) > 1 or group[0] in graph[group[0]]:
                 highest = max([priorities[place] for place in group])
                 if highest % 2 == player:

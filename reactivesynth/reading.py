@@ -26,11 +26,15 @@ def is_name(text):
 
 def natural(text):
     """Return the number that a text writes in decimal digits without leading zeros, or None if it writes none."""
-    if text == "" or not all([character in DIGITS for character in text]):
+    if text == "" or (text[0] == "0" and len(text) > 1):
         return None
-    if text[0] == "0" and len(text) > 1:
-        return None
-    return int(text)
+    # Digit by digit, since int takes other texts, too, and no very long ones.
+    number = 0
+    for character in text:
+        if character not in DIGITS:
+            return None
+        number = 10 * number + DIGITS.index(character)
+    return number
 
 
 def whole(text):

@@ -101,7 +101,7 @@ class ParseTest(unittest.TestCase):
                           "machine 1 1 0\nopening\n1/0\n\n", "machine 1 1 0\nopening\n1/0\n0/1\n"))
 
     def test_more_letters_than_a_line_can_have(self):
-        self.check_wrong(("machine " + "9" * 1000 + " 2 -1\nopening 0\n0/0 0/1\n",
+        self.check_wrong(("machine " + "9" * 5000 + " 2 -1\nopening 0\n0/0 0/1\n",
                           "machine 2 2 -" + "9" * 1000 + "\nopening 0\n0/0 0/1\n",
                           "machine 2 2 -1\nopening " + "9" * 1000 + "\n0/0 0/1\n",
                           "machine 2 2 -1\nopening 0\n" + "9" * 1000 + "/0 0/1\n"))
