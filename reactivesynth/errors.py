@@ -1,5 +1,7 @@
 """The errors that the program raises."""
 
+from reactivesynth.decimals import decimal
+
 
 class SynthError(ValueError):
     """The base class of all errors of the program."""
@@ -61,7 +63,7 @@ class FormulaSyntaxError(SynthError):
     """A text is no property; position is where it stops to be one."""
 
     def __init__(self, position):
-        super().__init__(f"no property goes on at position {position}")
+        super().__init__("no property goes on at position " + decimal(position))
         self.position = position
 
 
@@ -85,5 +87,5 @@ class SpecSyntaxError(SynthError):
     """A text is no specification; line is the index of the wrong line."""
 
     def __init__(self, line):
-        super().__init__(f"line {line} is not a line of a specification")
+        super().__init__("there is an error in line " + decimal(line))
         self.line = line

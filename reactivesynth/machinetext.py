@@ -1,5 +1,6 @@
 """Machines as text."""
 
+from reactivesynth.decimals import decimal
 from reactivesynth.errors import InvalidMachine, MachineSyntaxError
 from reactivesynth.machines import Machine
 from reactivesynth.reading import natural, whole
@@ -7,10 +8,11 @@ from reactivesynth.reading import natural, whole
 
 def format_machine(machine):
     """Return the text of a machine."""
-    lines = [f"machine {machine.inputs} {machine.outputs} {machine.lead}"]
-    lines.append(" ".join(["opening"] + [str(letter) for letter in machine.opening]))
+    sizes = [machine.inputs, machine.outputs, machine.lead]
+    lines = [" ".join(["machine"] + [decimal(size) for size in sizes])]
+    lines.append(" ".join(["opening"] + [decimal(letter) for letter in machine.opening]))
     for row in machine.rows:
-        lines.append(" ".join([f"{target}/{letter}" for target, letter in row]))
+        lines.append(" ".join([decimal(target) + "/" + decimal(letter) for target, letter in row]))
     return "".join([line + "\n" for line in lines])
 
 
