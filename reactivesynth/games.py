@@ -77,11 +77,11 @@ def choices_win(game, player, choices, position):
     reached = [place for place, found in enumerate(flags) if found]
     if min([len(graph[place]) for place in reached]) == 0:
         return False
-    return not has_cycle_for(graph, reached, game.priorities, 1 - player)
+    return winning_group(graph, reached, game.priorities, 1 - player) is None
 
 
-def has_cycle_for(graph, places, priorities, player):
-    """Return True if a player wins by going round some cycle through these places alone."""
+def winning_group(graph, places, priorities, player):
+    """Return places through all of which a player can go round and wins so, or None if there are none."""
     waiting = [places]
     while len(waiting) > 0:
         groups = component_lists(graph, waiting.pop())
@@ -89,7 +89,7 @@ def has_cycle_for(graph, places, priorities, player):
             if len(group) > 1 or group[0] in graph[group[0]]:
                 highest = max([priorities[place] for place in group])
                 if highest % 2 == player:
-                    return True
+                    return group
                 # No cycle through the highest priority is one for the player.
                 waiting.append([place for place in group if priorities[place] < highest])
-    return False
+    return None

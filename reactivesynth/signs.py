@@ -32,3 +32,8 @@ CONSTANTS = ("true", "false")
 def is_quantified(prop):
     """Return True if a property is no formula, but hides signals."""
     return prop[0] in QUANTIFIERS
+
+
+def formula_of(prop):
+    """Return the formula of a property, which may hide signals of it."""
+    return prop[2] if is_quantified(prop) else prop

@@ -54,6 +54,11 @@ def dual(spec):
                 negated=not spec.negated)
 
 
+def opposite(spec):
+    """Return the specification with the same signals that exactly the other words satisfy."""
+    return Spec(spec.inputs, spec.outputs, spec.lead, spec.assumptions, spec.guarantees, negated=not spec.negated)
+
+
 def spec_automaton(spec):
     """Return a Buchi automaton for the words that satisfy the specification."""
     if spec.negated:

@@ -27,6 +27,10 @@ FUNCTIONS = {
     "minimization": {"minimize": "(machine)", "separating_word": "(first, second)"},
     "machinetext": {"format_machine": "(machine)", "parse_machine": "(text)"},
     "specs": {"satisfies": "(spec, lasso)", "dual": "(spec)", "spec_automaton": "(spec)"},
+    "spectext": {"format_spec": "(spec)", "parse_spec": "(text)"},
+    "synthesis": {"synthesize": "(spec)"},
+    "checking": {"breaking_word": "(spec, machine)"},
+    "prospects": {"prospects": "(spec, word)"},
 }
 CLASSES = {
     "buchi": {"Automaton": "(letters, initial, accepting, rows)"},
@@ -35,9 +39,14 @@ CLASSES = {
     "solving": {"Solution": "(winners, choices)"},
     "machines": {"Machine": "(inputs, outputs, lead, opening, rows)"},
     "specs": {"Spec": "(inputs, outputs, lead, assumptions, guarantees, *, negated=False)"},
+    "synthesis": {"Verdict": "(realizable, machine)"},
+    "monitors": {"Monitor": "(spec)"},
 }
-METHODS = {"machines": {"Machine": {"__call__": "(self, heard)"}}}
-PROPERTIES = {"specs": {"Spec": ("signals",)}}
+METHODS = {
+    "machines": {"Machine": {"__call__": "(self, heard)"}},
+    "monitors": {"Monitor": {"read": "(self, letter)"}},
+}
+PROPERTIES = {"specs": {"Spec": ("signals",)}, "monitors": {"Monitor": ("verdict",)}}
 
 
 class InterfaceTest(unittest.TestCase):

@@ -80,6 +80,13 @@ class FileTest(unittest.TestCase):
                 self.assertRegex(line, r"^[ -~]*$", f"{name}:{number}")
                 self.assertLessEqual(len(line), 120, f"{name}:{number}")
 
+    def test_nothing_is_returned_within_a_constructor(self):
+        for name, tree in trees():
+            for node in ast.walk(tree):
+                if isinstance(node, ast.FunctionDef) and node.name == "__init__":
+                    for inner in ast.walk(node):
+                        self.assertNotIsInstance(inner, (ast.Return, ast.Lambda), f"{name}:{node.lineno}")
+
     def test_lengths_of_functions(self):
         for name, tree in trees():
             for node in ast.walk(tree):

@@ -5,6 +5,7 @@ import unittest
 
 from reactivesynth import errors
 from reactivesynth.buchi import Automaton, accepts, find_word
+from reactivesynth.checking import breaking_word
 from reactivesynth.comparison import complement, equivalent, included
 from reactivesynth.description import describe
 from reactivesynth.determinization import determinize
@@ -13,13 +14,17 @@ from reactivesynth.games import Game, choices_win, distances
 from reactivesynth.machines import Machine, respond, trace
 from reactivesynth.machinetext import format_machine, parse_machine
 from reactivesynth.minimization import minimize, separating_word
+from reactivesynth.monitors import Monitor
 from reactivesynth.operations import hide, intersection, trim, union, widen
 from reactivesynth.parity import ParityAutomaton, accepts_parity, complement_parity, quotient, to_buchi
 from reactivesynth.parsing import parse_property
 from reactivesynth.plays import play
 from reactivesynth.printing import format_property
+from reactivesynth.prospects import prospects
 from reactivesynth.solving import Solution, solve
 from reactivesynth.specs import Spec, dual, satisfies, spec_automaton
+from reactivesynth.spectext import format_spec, parse_spec
+from reactivesynth.synthesis import Verdict, synthesize
 from reactivesynth.translation import translate
 from reactivesynth.truth import holds, truth_word
 from reactivesynth.words import combine, first_difference, letter_at, make_lasso, relabel, suffix
@@ -34,6 +39,15 @@ MACHINE = (2, 2, -1, [0], [[(1, 0), (0, 1)], [(0, 1), (1, 0)], [(2, 0), (2, 0)]]
 OPPONENT = (2, 2, 0, [], [[(0, 1), (0, 0)]])
 SPEC = (["a"], ["b"], 0, [FORMULA], [HIDDEN, FORMULA])
 GAME = ([0, 1, 1], [2, 1, 0], [[1, 2], [0, 1], [0, 2]])
+
+
+def read_three(spec):
+    """Return a monitor that has read three letters."""
+    monitor = Monitor(spec)
+    for letter in (0, 3, 1):
+        monitor.read(letter)
+    return monitor
+
 
 CALLS = (
     (make_lasso, [1, 0], [1, 0]), (letter_at, LASSO, 5), (suffix, LASSO, 4), (relabel, LASSO, [1, 0]),
@@ -58,6 +72,10 @@ CALLS = (
     (format_machine, Machine(*MACHINE)), (parse_machine, "machine 2 2 -1\nopening 0\n0/0 0/1\n"),
     (Spec,) + SPEC, (satisfies, Spec(*SPEC), LASSO), (dual, Spec(*SPEC)), (spec_automaton, Spec(*SPEC)),
     (spec_automaton, dual(Spec(*SPEC))),
+    (format_spec, Spec(*SPEC)), (parse_spec, "inputs a\noutputs b\nlead 0\nguarantee exists h: G(h -> a)\nnegated\n"),
+    (Verdict, False, Machine(*MACHINE)), (synthesize, Spec(*SPEC)), (synthesize, dual(Spec(*SPEC))),
+    (breaking_word, Spec(["a"], ["b"], -1, [], [FORMULA]), Machine(*MACHINE)),
+    (prospects, Spec(*SPEC), [0, 3, 1]), (Monitor, Spec(*SPEC)), (read_three, Spec(*SPEC)),
 )
 WRONG_CALLS = (
     (make_lasso, [1], []), (make_lasso, [-1], [0]), (letter_at, LASSO, -1), (suffix, LASSO, -1), (relabel, LASSO, [0]),
@@ -76,13 +94,19 @@ WRONG_CALLS = (
     (respond, Machine(*MACHINE), ((2,), (0,))), (trace, Machine(*MACHINE), ((), (3,))),
     (play, Machine(*MACHINE), Machine(*MACHINE)), (separating_word, Machine(*MACHINE), Machine(*OPPONENT)),
     (parse_machine, "machine"), (Spec, ["a"], ["a"], 0, [], []), (satisfies, Spec(*SPEC), ((4,), (0,))),
+    (parse_spec, ""), (parse_spec, "inputs\noutputs\nlead 0\nassume a b\n"),
+    (parse_spec, "inputs\noutputs\nlead 0\nassume a\n"),
+    (parse_spec, "inputs a\noutputs\nlead 0\nassume exists a: a\n"),
+    (parse_spec, "inputs a\noutputs\nlead 0\nassume XXXXXa\nassume XXXXXa\n"),
+    (breaking_word, Spec(*SPEC), Machine(*MACHINE)), (prospects, Spec(*SPEC), [0, 4]),
+    (Monitor.read, Monitor(Spec(*SPEC)), 4),
 )
 
 
 def shown(value):
     """Return a value with the attributes of an object in the place of it."""
-    if isinstance(value, (Automaton, ParityAutomaton, Game, Solution, Machine, Spec)):
-        return sorted(vars(value).items())
+    if isinstance(value, (Automaton, ParityAutomaton, Game, Solution, Machine, Spec, Verdict, Monitor)):
+        return [(name, shown(kept)) for name, kept in sorted(vars(value).items())]
     if isinstance(value, (list, tuple)):
         return type(value)(shown(item) for item in value)
     return value
