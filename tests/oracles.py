@@ -238,3 +238,42 @@ def last_emitted(machine, word):
     for letter in word:
         state, said = machine.rows[state][letter]
     return said
+
+
+def slow_matches(expression, word):
+    """Return True if a word is one of an expression, after trying all ways to cut it in two."""
+    kind = expression[0]
+    if kind in ("none", "empty", "letter"):
+        return kind != "none" and tuple(word) == (expression[1:] if kind == "letter" else ())
+    if kind == "either":
+        return slow_matches(expression[1], word) or slow_matches(expression[2], word)
+    cuts = range(len(word) + 1)
+    if kind == "join":
+        return any(slow_matches(expression[1], word[:cut]) and slow_matches(expression[2], word[cut:]) for cut in cuts)
+    return len(word) == 0 or any(slow_matches(expression[1], word[:cut]) and slow_matches(expression, word[cut:])
+                                 for cut in cuts if cut > 0)
+
+
+def slow_contains(pairs, lasso, longest):
+    """Return True if the word of a lasso is one of an endless expression all of whose pieces have at most this length.
+
+    A place is how far a piece begins in the lasso; after the last place of
+    the loop comes its first one again.
+    """
+    head, loop = lasso
+    places = range(len(head) + len(loop))
+    letters = list(head) + list(loop) * (longest // len(loop) + 2)
+
+    def place_after(place):
+        return place if place < len(places) else len(head) + (place - len(head)) % len(loop)
+
+    for first, second in pairs:
+        steps = {place: {place_after(place + length) for length in range(1, longest + 1)
+                         if slow_matches(second, letters[place:place + length])} for place in places}
+        # Places from which no step leads are taken away until only those are left that go on without end.
+        while any(not steps[place] for place in steps):
+            steps = {place: {target for target in steps[place] if target in steps and steps[target]}
+                     for place in steps if steps[place]}
+        if any(slow_matches(first, letters[:length]) and place_after(length) in steps for length in range(longest + 1)):
+            return True
+    return False

@@ -31,6 +31,12 @@ FUNCTIONS = {
     "synthesis": {"synthesize": "(spec)"},
     "checking": {"breaking_word": "(spec, machine)"},
     "prospects": {"prospects": "(spec, word)"},
+    "journals": {"recover": "(machine, text)"},
+    "certificates": {"write_certificate": "(spec)", "audit": "(spec, text)"},
+    "congruence": {"separating_context": "(automaton, first, second)", "exponent": "(automaton)"},
+    "expressions": {"matches": "(expression, word)", "contains": "(pairs, lasso)",
+                    "expression_automaton": "(pairs, letters)", "automaton_expression": "(automaton)"},
+    "smallest": {"smallest_system": "(spec, limit)"},
 }
 CLASSES = {
     "buchi": {"Automaton": "(letters, initial, accepting, rows)"},
@@ -41,12 +47,15 @@ CLASSES = {
     "specs": {"Spec": "(inputs, outputs, lead, assumptions, guarantees, *, negated=False)"},
     "synthesis": {"Verdict": "(realizable, machine)"},
     "monitors": {"Monitor": "(spec)"},
+    "journals": {"Journal": "(machine, *, spacing=4)"},
 }
 METHODS = {
     "machines": {"Machine": {"__call__": "(self, heard)"}},
     "monitors": {"Monitor": {"read": "(self, letter)"}},
+    "journals": {"Journal": {"hear": "(self, letter)"}},
 }
-PROPERTIES = {"specs": {"Spec": ("signals",)}, "monitors": {"Monitor": ("verdict",)}}
+PROPERTIES = {"specs": {"Spec": ("signals",)}, "monitors": {"Monitor": ("verdict",)},
+              "journals": {"Journal": ("said",)}}
 
 
 class InterfaceTest(unittest.TestCase):

@@ -5,12 +5,16 @@ import unittest
 
 from reactivesynth import errors
 from reactivesynth.buchi import Automaton, accepts, find_word
+from reactivesynth.certificates import audit, write_certificate
 from reactivesynth.checking import breaking_word
 from reactivesynth.comparison import complement, equivalent, included
+from reactivesynth.congruence import exponent, separating_context
 from reactivesynth.description import describe
 from reactivesynth.determinization import determinize
+from reactivesynth.expressions import automaton_expression, contains, expression_automaton, matches
 from reactivesynth.formulas import normal_form, signal_names, temporal_count
 from reactivesynth.games import Game, choices_win, distances
+from reactivesynth.journals import Journal, recover
 from reactivesynth.machines import Machine, respond, trace
 from reactivesynth.machinetext import format_machine, parse_machine
 from reactivesynth.minimization import minimize, separating_word
@@ -21,6 +25,7 @@ from reactivesynth.parsing import parse_property
 from reactivesynth.plays import play
 from reactivesynth.printing import format_property
 from reactivesynth.prospects import prospects
+from reactivesynth.smallest import smallest_system
 from reactivesynth.solving import Solution, solve
 from reactivesynth.specs import Spec, dual, satisfies, spec_automaton
 from reactivesynth.spectext import format_spec, parse_spec
@@ -39,6 +44,10 @@ MACHINE = (2, 2, -1, [0], [[(1, 0), (0, 1)], [(0, 1), (1, 0)], [(2, 0), (2, 0)]]
 OPPONENT = (2, 2, 0, [], [[(0, 1), (0, 0)]])
 SPEC = (["a"], ["b"], 0, [FORMULA], [HIDDEN, FORMULA])
 GAME = ([0, 1, 1], [2, 1, 0], [[1, 2], [0, 1], [0, 2]])
+TEXT = "machine 2 2 -1\nopening 0\n0/0 0/1\n"
+PAIRS = ((("star", ("letter", 0)), ("join", ("letter", 1), ("star", ("letter", 0)))), (("empty",), ("letter", 0)))
+
+OBJECTS = (Automaton, ParityAutomaton, Game, Solution, Machine, Spec, Verdict, Monitor, Journal)
 
 
 def read_three(spec):
@@ -47,6 +56,14 @@ def read_three(spec):
     for letter in (0, 3, 1):
         monitor.read(letter)
     return monitor
+
+
+def hear_three(machine):
+    """Return a journal that has heard three letters."""
+    journal = Journal(machine, spacing=2)
+    for letter in (0, 1, 1):
+        journal.hear(letter)
+    return journal
 
 
 CALLS = (
@@ -69,13 +86,19 @@ CALLS = (
     (Machine,) + MACHINE, (Machine.__call__, Machine(*MACHINE), [1, 0, 1]), (respond, Machine(*MACHINE), LASSO),
     (trace, Machine(*MACHINE), LASSO), (play, Machine(*MACHINE), Machine(*OPPONENT)), (minimize, Machine(*MACHINE)),
     (separating_word, Machine(*MACHINE), Machine(2, 2, -1, [0], [[(0, 0), (0, 0)]])),
-    (format_machine, Machine(*MACHINE)), (parse_machine, "machine 2 2 -1\nopening 0\n0/0 0/1\n"),
+    (format_machine, Machine(*MACHINE)), (parse_machine, TEXT),
     (Spec,) + SPEC, (satisfies, Spec(*SPEC), LASSO), (dual, Spec(*SPEC)), (spec_automaton, Spec(*SPEC)),
     (spec_automaton, dual(Spec(*SPEC))),
     (format_spec, Spec(*SPEC)), (parse_spec, "inputs a\noutputs b\nlead 0\nguarantee exists h: G(h -> a)\nnegated\n"),
     (Verdict, False, Machine(*MACHINE)), (synthesize, Spec(*SPEC)), (synthesize, dual(Spec(*SPEC))),
     (breaking_word, Spec(["a"], ["b"], -1, [], [FORMULA]), Machine(*MACHINE)),
     (prospects, Spec(*SPEC), [0, 3, 1]), (Monitor, Spec(*SPEC)), (read_three, Spec(*SPEC)),
+    (Journal, Machine(*MACHINE)), (hear_three, Machine(*MACHINE)),
+    (recover, Machine(*MACHINE), "journal 2\nheard 0\nheard 1\nsta"), (write_certificate, Spec(*SPEC)),
+    (audit, Spec(["a"], ["b"], -1, [], [FORMULA]), "realizable\n" + TEXT), (exponent, Automaton(*BUCHI)),
+    (separating_context, Automaton(*BUCHI), [0, 1], [1]), (matches, PAIRS[0][1], [1, 0, 0]), (contains, PAIRS, LASSO),
+    (expression_automaton, PAIRS, 2), (automaton_expression, Automaton(*BUCHI)),
+    (smallest_system, Spec(["a"], ["b"], 0, [], [("always", ("eventually", ("signal", "b")))]), 2),
 )
 WRONG_CALLS = (
     (make_lasso, [1], []), (make_lasso, [-1], [0]), (letter_at, LASSO, -1), (suffix, LASSO, -1), (relabel, LASSO, [0]),
@@ -99,13 +122,16 @@ WRONG_CALLS = (
     (parse_spec, "inputs a\noutputs\nlead 0\nassume exists a: a\n"),
     (parse_spec, "inputs a\noutputs\nlead 0\nassume XXXXXa\nassume XXXXXa\n"),
     (breaking_word, Spec(*SPEC), Machine(*MACHINE)), (prospects, Spec(*SPEC), [0, 4]),
-    (Monitor.read, Monitor(Spec(*SPEC)), 4),
+    (Monitor.read, Monitor(Spec(*SPEC)), 4), (Journal.hear, hear_three(Machine(*MACHINE)), 2),
+    (recover, Machine(*MACHINE), "journal 0\n"), (audit, Spec(*SPEC), TEXT),
+    (audit, Spec(*SPEC), "realizable\n" + TEXT), (expression_automaton, PAIRS, 1),
+    (automaton_expression, Automaton(5, [], [], [[[]] * 5])),
 )
 
 
 def shown(value):
     """Return a value with the attributes of an object in the place of it."""
-    if isinstance(value, (Automaton, ParityAutomaton, Game, Solution, Machine, Spec, Verdict, Monitor)):
+    if isinstance(value, OBJECTS):
         return [(name, shown(kept)) for name, kept in sorted(vars(value).items())]
     if isinstance(value, (list, tuple)):
         return type(value)(shown(item) for item in value)

@@ -125,7 +125,8 @@ class WrongLineTest(unittest.TestCase):
 
     def test_the_line_with_the_inputs(self):
         for line in ("", " ", "input", "input a", "inputsa", "inputs ", " inputs", "inputs  a", "inputs a ",
-                     "inputs a  b", "inputs A", "inputs 1", "inputs 1a", "inputs a_b", "inputs a,b", "inputs a, b", "inputs true",
+                     "inputs a  b", "inputs A", "inputs 1", "inputs 1a", "inputs a_b", "inputs a,b", "inputs a, b",
+                     "inputs true",
                      "inputs a false", "inputs exists", "inputs forall a", "inputs a a", "inputs a b a",
                      "inputs a b c d", "inputs a b c a", "outputs b", "Inputs a", "inputs: a", "inputs aB", "inputs X",
                      "a"):
@@ -141,7 +142,8 @@ class WrongLineTest(unittest.TestCase):
 
     def test_the_line_with_the_lead(self):
         for line in ("", " ", "lead", "lead ", " lead 0", "lead  0", "lead 0 ", "lead0", "lead -4", "lead 3", "lead 10",
-                     "lead 00", "lead 01", "lead -01", "lead -0", "lead +1", "lead --1", "lead - 1", "lead 1-", "lead x",
+                     "lead 00", "lead 01", "lead -01", "lead -0", "lead +1", "lead --1", "lead - 1", "lead 1-",
+                     "lead x",
                      "lead 0x1", "lead 1 1", "lead 1.", "lead 1_0", "Lead 0", "assume a", "guarantee a", "negated",
                      "lead 99999999999999999999", "lead -99999999999999999999"):
             self.check(2, "inputs a\noutputs b\n" + line + "\n", "inputs a\noutputs b\n" + line + "\nx",
